@@ -1,0 +1,19 @@
+// Package number has numbers as bytes, that of the greatest weight first: how many layers keep and tell them.
+package number
+
+// Read gives the number that bytes tell; of more than 8 of them, that which the last 8 tell.
+func Read(b []byte) uint64 {
+	var n uint64
+	for _, c := range b {
+		n = n<<8 | uint64(c)
+	}
+	return n
+}
+
+// Append gives bytes with a number of so many bytes behind them.
+func Append(b []byte, n uint64, size int) []byte {
+	for i := range size {
+		b = append(b, byte(n>>(8*(size-1-i))))
+	}
+	return b
+}
