@@ -36,3 +36,14 @@ func TestAppend(t *testing.T) {
 		}
 	}
 }
+
+func TestModulo(t *testing.T) {
+	for _, c := range []struct{ n, below, want int }{
+		{0, 1, 0}, {-1, 1, 0}, {math.MinInt, 1, 0}, {0, 3, 0}, {2, 3, 2}, {3, 3, 0}, {7, 3, 1}, {-1, 3, 2}, {-2, 3, 1}, {-3, 3, 0}, {-4, 3, 2},
+		{math.MaxInt, 10, 7}, {math.MinInt, 10, 2}, {math.MaxInt, math.MaxInt, 0}, {math.MinInt, math.MaxInt, math.MaxInt - 1}, {-1, math.MaxInt, math.MaxInt - 1},
+	} {
+		if got := Modulo(c.n, c.below); got != c.want {
+			t.Errorf("%d modulo %d: %d, not %d", c.n, c.below, got, c.want)
+		}
+	}
+}
